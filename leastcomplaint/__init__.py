@@ -1,0 +1,1 @@
+"""Dividing what partners earn together so that complaints are least."""
