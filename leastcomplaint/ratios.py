@@ -66,6 +66,12 @@ def together(ratios):
     return (unit, [top * (unit // bottom) for top, bottom in ratios])
 
 
+def added(ratios):
+    """The sum of a list of ratios."""
+    unit, tops = together(ratios)
+    return ratio(sum(tops), unit)
+
+
 def integer_text(number):
     """The decimal notation of an integer of any size."""
     # Python refuses to write very long integers at once: so this goes block by block.

@@ -175,6 +175,30 @@ class Language(unittest.TestCase):
                     if isinstance(node, ast.Raise) and node.exc is not None:
                         self.assertIsInstance(node.exc, ast.Call)
 
+    def test_stars_in_calls(self):
+        for path, tree in trees():
+            with self.subTest(path.name):
+                for node in ast.walk(tree):
+                    for part in node.args if isinstance(node, ast.Call) else []:
+                        if isinstance(part, ast.Starred):
+                            self.assertIsInstance(part.value, (ast.Name, ast.Attribute))
+
+    def test_what_is_iterated_at_once(self):
+        at_once = ("list", "tuple", "dict", "sorted", "sum", "any", "all", "enumerate", "zip", "min", "max")
+        for path, tree in trees():
+            with self.subTest(path.name):
+                places = set()
+                for node in ast.walk(tree):
+                    if isinstance(node, (ast.For, ast.comprehension)):
+                        places.add(node.iter)
+                    elif isinstance(node, ast.Call) and isinstance(node.func, ast.Name) and node.func.id in at_once:
+                        places.update(node.args[:1])
+                for node in ast.walk(tree):
+                    if isinstance(node, ast.Call):
+                        name = node.func.id if isinstance(node.func, ast.Name) else node.func.attr
+                        if name in ("zip", "enumerate", "reversed", "range", "items", "keys", "values"):
+                            self.assertTrue(node in places, ast.unparse(node))
+
 
 class Places(unittest.TestCase):
     """Each function and class of the interface is defined in the file under which it is listed."""
@@ -183,6 +207,13 @@ class Places(unittest.TestCase):
         "errors": "DivisionError",
         "ratios": "ratio plus minus times compare lowest together ratio_text read_ratio",
         "games": "Game groups additive shifted part turned put_together renamed",
+        "divisions": """amount is_division complaint complaints complaint_list going is_calm list_order even_division
+            blended""",
+        "programs": "least is_least",
+        "calm": """calm_division family_against is_family count_of lack is_simple simple_parts calm_to ladder
+            clash""",
+        "bounds": """needed lowest_amounts need_family least_amount greatest_amount least_for greatest_for
+            floor_weights shows_floor tight is_tight""",
     }
 
     def test_places(self):
