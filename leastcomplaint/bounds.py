@@ -55,28 +55,29 @@ def floor_weights(game, group):
 
 
 def is_paper(game, told):
-    """Whether a value is a tuple of a scale of at least 1, a dict of weights of other groups, and an integer."""
+    """Whether a value is a tuple of a scale of at least 1, a dict of weights of groups, and an integer."""
     if not isinstance(told, tuple) or len(told) != 3:
         return False
-    scale, weights, whole = told
-    if not plain_integer(scale) or scale < 1 or not plain_integer(whole):
-        return False
-    return are_weights(game.players, weights) and game.whole not in weights
+    scale, weights, rest = told
+    return plain_integer(scale) and scale >= 1 and plain_integer(rest) and are_weights(game.players, weights)
+
+
+def earns_floor(game, group, value, told):
+    """Whether weights count the players of a group only, and earn a value for them in each calm division."""
+    scale, weights, rest = told
+    for player in game.whole:
+        total = rest + sum([weight for other, weight in weights.items() if player in other])
+        if total != (scale if player in group else 0):
+            return False
+    earned = rest * game[game.whole] + sum([weight * game[other] for other, weight in weights.items()])
+    return earned * value[1] >= scale * value[0]
 
 
 def shows_floor(game, group, value, told):
     """Whether such evidence shows that no calm division gives a group less than a ratio."""
     if group not in game:
         raise NoGroup(group)
-    if not is_paper(game, told):
-        return False
-    scale, weights, whole = told
-    for player in game.whole:
-        total = whole + sum([weight for other, weight in weights.items() if player in other])
-        if total != (scale if player in group else 0):
-            return False
-    earned = whole * game[game.whole] + sum([weight * game[other] for other, weight in weights.items()])
-    return earned * value[1] >= scale * value[0]
+    return is_paper(game, told) and game.whole not in told[1] and earns_floor(game, group, value, told)
 
 
 def least_for(game, group):

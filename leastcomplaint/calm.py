@@ -1,10 +1,11 @@
 """Calm divisions, or families of groups that bar them."""
 
 from leastcomplaint.checks import are_weights
-from leastcomplaint.covers import cover, member_rows
+from leastcomplaint.covers import cover, member_line
 from leastcomplaint.divisions import chosen_groups, is_division
+from leastcomplaint.equations import are_independent
 from leastcomplaint.errors import NotFamily
-from leastcomplaint.ratios import added, minus, ratio, times, together
+from leastcomplaint.ratios import least_ratio, minus, ratio, times
 
 
 def settled(game, chosen):
@@ -54,39 +55,12 @@ def lack(game, family):
     return minus(ratio(earned, count), (game[game.whole], 1))
 
 
-def first_place(line):
-    """The place of the first number of a list that is not 0, or None."""
-    for place, number in enumerate(line):
-        if number != 0:
-            return place
-    return None
-
-
-def are_independent(lines):
-    """Whether no list of integers is a sum of multiples of the other ones."""
-    rest = list(lines)
-    while rest:
-        line = rest[0]
-        place = first_place(line)
-        if place is None:
-            return False
-        rest = [[number * line[place] - other[place] * own for number, own in zip(other, line)] for other in rest[1:]]
-    return True
-
-
 def is_simple(game, family):
     """Whether all families of groups of a family have weights that are proportional to its own."""
     if not is_family(game, family):
         raise NotFamily()
     # If the groups depend on one another, weights can be moved between them until one of them is left out.
-    rows = member_rows(game, list(family))
-    return are_independent(list(zip(*rows)))
-
-
-def least_ratio(ratios):
-    """The least one of some ratios."""
-    unit, tops = together(ratios)
-    return ratio(min(tops), unit)
+    return are_independent([member_line(game, group) for group in family])
 
 
 def without(rest, share, family):

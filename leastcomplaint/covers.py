@@ -4,6 +4,11 @@ from leastcomplaint.programs import least
 from leastcomplaint.ratios import lowest, ratio
 
 
+def member_line(game, group):
+    """A list that has 1 for each player of a group, and 0 for the other ones."""
+    return [1 if player in group else 0 for player in game.whole]
+
+
 def member_rows(game, columns):
     """For each player a list that has 1 for each group with this player, and 0 for the other ones."""
     return [[1 if player in group else 0 for group in columns] for player in game.whole]

@@ -82,6 +82,11 @@ def is_calm(game, division, *, only=None):
     return not any([told[group][0] > 0 for group in chosen_groups(game, only)])
 
 
+def is_calm_division(game, value):
+    """Whether a value is a calm division of a game."""
+    return is_division(game, value) and is_calm(game, value)
+
+
 def list_order(one, other):
     """1 if the first list of ratios is greater, compared like words, -1 if it is less, 0 if both are the same."""
     for left, right in zip(one, other):

@@ -126,8 +126,13 @@ def put_together(game, one, other):
     return standing_for(game, places)
 
 
+def is_order(game, value):
+    """Whether a value is a list that has each player of a game just once."""
+    return integer_list(value) and sorted(value) == list(game.whole)
+
+
 def renamed(game, order):
     """The game in which player k is the player order[k] of a game."""
-    if not integer_list(order) or sorted(order) != list(game.whole):
+    if not is_order(game, order):
         raise BadOrder()
     return standing_for(game, [(player,) for player in order])

@@ -72,6 +72,12 @@ def added(ratios):
     return ratio(sum(tops), unit)
 
 
+def least_ratio(ratios):
+    """The least one of some ratios."""
+    unit, tops = together(ratios)
+    return ratio(min(tops), unit)
+
+
 def integer_text(number):
     """The decimal notation of an integer of any size."""
     # Python refuses to write very long integers at once: so this goes block by block.

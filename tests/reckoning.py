@@ -1,5 +1,6 @@
 """What the tests reckon by themselves, with fractions and by trying everything, not with the functions of the package."""
 
+import functools
 import itertools
 import random
 import time
@@ -100,17 +101,23 @@ def greatest_earned(game, families):
     return max((sum(weight * game[group] for group, weight in family.items()) for family in families), default=None)
 
 
-def all_corners(game):
-    """The corners of the calm divisions, lists of fractions, by trying all sets of groups that may be tight."""
-    others = [group for group in game if group != game.whole]
+@functools.cache
+def corners_of(players, worths):
+    worth = dict(zip(all_groups(players), worths, strict=True))
+    whole = tuple(range(players))
     found = []
-    for some in itertools.combinations(others, game.players - 1):
-        chosen = [*some, game.whole]
-        amounts = solved([[int(k in group) for k in range(game.players)] for group in chosen],
-                         [game[group] for group in chosen])
-        if amounts is not None and all(sum(amounts[k] for k in group) >= game[group] for group in game):
+    for some in itertools.combinations([group for group in worth if group != whole], players - 1):
+        chosen = [*some, whole]
+        amounts = solved([[int(k in group) for k in range(players)] for group in chosen],
+                         [worth[group] for group in chosen])
+        if amounts is not None and all(sum(amounts[k] for k in group) >= worth[group] for group in worth):
             found.append(amounts)
     return found
+
+
+def all_corners(game):
+    """The corners of the calm divisions, lists of fractions, by trying all sets of groups that may be tight."""
+    return [list(corner) for corner in corners_of(game.players, tuple(game[x] for x in all_groups(game.players)))]
 
 
 def seconds(call, *arguments, **named):

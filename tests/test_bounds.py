@@ -18,6 +18,7 @@ from reckoning import (
     LONG, NO_GROUPS_OF_THREE, all_corners, all_groups, as_ratio, fraction, game_of, greatest_earned, seconds,
     simple_families, some_games, total,
 )
+from samples import calm_games
 
 # The simple families of groups other than the whole; for five players it takes long to try all sets of groups.
 SIMPLE = {players: simple_families(players, [x for x in all_groups(players) if len(x) < players])
@@ -31,19 +32,6 @@ def rich():
 
 def poor():
     return game_of(3, 0, 4, 5, 4, 0, 4, 0)
-
-
-def calm_games(players, many, most, seed):
-    """Games with calm divisions; in some of them there is just one."""
-    found = []
-    for k, game in enumerate(some_games(players, many, most, seed)):
-        lack = needed(game)
-        worths = game.worths()
-        if lack is not None and (lack[0] > 0 or k % 5 == 0):
-            worths = {group: worth * lack[1] for group, worth in worths.items()}
-            worths[game.whole] += lack[0]
-        found.append(Game(players, worths))
-    return found
 
 
 def is_floor(game, group, value, told):

@@ -214,6 +214,10 @@ class Places(unittest.TestCase):
             clash""",
         "bounds": """needed lowest_amounts need_family least_amount greatest_amount least_for greatest_for
             floor_weights shows_floor tight is_tight""",
+        "compared": "implies division_between multipliers shows_implied same_divisions groups_same",
+        "orders": "joined bad_pair order_against is_orderly average dividends from_dividends",
+        "least": "least_division levels groups_from evidence move shows_least shows_move improved",
+        "lists": "price_lists group_without shows_lists made_by closed",
     }
 
     def test_places(self):
