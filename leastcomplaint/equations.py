@@ -16,16 +16,23 @@ def reduced(line, kept, place):
     return [number * kept[place] - line[place] * own for number, own in zip(line, kept)]
 
 
+def rank(lines):
+    """How many of some lists of integers are not sums of multiples of those before them."""
+    rest = list(lines)
+    found = 0
+    while rest:
+        line, *behind = rest
+        place = first_place(line)
+        if place is not None:
+            found += 1
+            behind = [reduced(other, line, place) for other in behind]
+        rest = behind
+    return found
+
+
 def are_independent(lines):
     """Whether no list of integers is a sum of multiples of the other ones."""
-    rest = list(lines)
-    while rest:
-        line = rest[0]
-        place = first_place(line)
-        if place is None:
-            return False
-        rest = [reduced(other, line, place) for other in rest[1:]]
-    return True
+    return rank(lines) == len(lines)
 
 
 def solution(lines):

@@ -6,9 +6,14 @@ from leastcomplaint.errors import BadAmounts, BadOrder, BadPlayers, BadWorths, M
 MOST_PLAYERS = 5
 
 
+def is_size(value):
+    """Whether a value is a number of players that a game may have."""
+    return plain_integer(value) and 1 <= value <= MOST_PLAYERS
+
+
 def groups(players):
     """The list of all groups of so many players in ascending order."""
-    if not plain_integer(players) or not 1 <= players <= MOST_PLAYERS:
+    if not is_size(players):
         raise BadPlayers()
     found = []
     for player in range(players):

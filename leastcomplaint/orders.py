@@ -25,9 +25,8 @@ def lies_in(group, other):
 
 
 def is_bad(game, one, other):
-    """Whether two groups of which neither contains the other one earn more than what they make together."""
-    if lies_in(one, other) or lies_in(other, one):
-        return False
+    """Whether two groups earn more than the group of all their members and that of those who are in both."""
+    # If one of them contains the other one, these are just the two groups: then they are not bad.
     either = tuple([player for player in game.whole if player in one or player in other])
     both = tuple([player for player in one if player in other])
     return game[one] + game[other] > game[either] + (game[both] if both else 0)

@@ -58,12 +58,17 @@ def lowest(numbers):
     return [number // divisor for number in numbers]
 
 
+def scaled(ratios, unit):
+    """The list of the integers that ratios become when they are multiplied by a multiple of all their bottoms."""
+    return [top * (unit // bottom) for top, bottom in ratios]
+
+
 def together(ratios):
     """The least unit that makes all ratios integers, and the list of these integers."""
     unit = 1
     for top, bottom in ratios:
         unit = unit // common_divisor(unit, bottom) * bottom
-    return (unit, [top * (unit // bottom) for top, bottom in ratios])
+    return (unit, scaled(ratios, unit))
 
 
 def added(ratios):

@@ -218,6 +218,11 @@ class Places(unittest.TestCase):
         "orders": "joined bad_pair order_against is_orderly average dividends from_dividends",
         "least": "least_division levels groups_from evidence move shows_least shows_move improved",
         "lists": "price_lists group_without shows_lists made_by closed",
+        "corners": "tight_groups is_corner corners corner_shares",
+        "sources": """market best_pairing best_for_sellers best_for_buyers sellers_better linked least_links
+            tree_division""",
+        "bench": "Bench",
+        "notation": "text_of division_text family_text read_game read_division read_family read_bench report",
     }
 
     def test_places(self):
