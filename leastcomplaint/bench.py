@@ -106,17 +106,23 @@ class Bench:
         """The ascending list of the names."""
         return sorted(list(self.now.games))
 
+    def others(self, name):
+        """The dict of all games but one."""
+        return {other: game for other, game in self.now.games.items() if other != name}
+
     def become(self, games):
         """Have other games from now on, as one change."""
         self.now = Moment(games, [*self.now.past, self.now.games], [])
 
+    def keep(self, name, game):
+        """Have a game under a name, new or in the place of another game, as one change."""
+        games = self.others(name)
+        games[name] = game
+        self.become(games)
+
     def forget(self):
         """Keep the games, but no change that can be taken back or done again."""
         self.now = Moment(self.now.games, [], [])
-
-    def others(self, name):
-        """The dict of all games but one."""
-        return {other: game for other, game in self.now.games.items() if other != name}
 
     def put(self, name, game):
         """Put a game on the bench under a new name."""
@@ -126,7 +132,7 @@ class Bench:
             raise NameTaken(name)
         if game.players != self.players:
             raise Mismatch()
-        self.become({**self.now.games, name: game})
+        self.keep(name, game)
 
     def join(self, new, one, other):
         """Put the sum of two games of the bench on it under a new name."""
@@ -134,11 +140,11 @@ class Bench:
 
     def scale(self, name, factor):
         """Multiply all worths of a game."""
-        self.become({**self.now.games, name: self[name] * factor})
+        self.keep(name, self[name] * factor)
 
     def shift(self, name, amounts):
         """Add to the worth of each group of a game the sum of the amounts of its members."""
-        self.become({**self.now.games, name: shifted(self[name], amounts)})
+        self.keep(name, shifted(self[name], amounts))
 
     def change(self, name, group, worth):
         """Replace one worth of a game."""
@@ -146,7 +152,7 @@ class Bench:
         if group not in self[name]:
             raise NoGroup(group)
         worths[group] = worth
-        self.become({**self.now.games, name: Game(self.players, worths)})
+        self.keep(name, Game(self.players, worths))
 
     def rename(self, name, new):
         """Give a game another name, or the name that it has."""
@@ -155,7 +161,9 @@ class Bench:
             raise BadName(new)
         if new != name and new in self:
             raise NameTaken(new)
-        self.become({**self.others(name), new: game})
+        games = self.others(name)
+        games[new] = game
+        self.become(games)
 
     def drop(self, name):
         """Remove a game."""
@@ -213,17 +221,10 @@ class Bench:
                 bench.drop(name)
             return deed(bench)
 
-    def check_periods(self, periods):
-        """Raise an error unless a value is a list of periods with names of the bench."""
-        if not are_periods(periods):
-            raise BadShares()
-        for name, length in periods:
-            if name not in self:
-                raise UnknownName(name)
-
     def total(self, periods):
         """The game of all periods: the sum of the games, each as often as its period is long."""
-        self.check_periods(periods)
+        if not are_periods(periods):
+            raise BadShares()
         found = additive([0] * self.players)
         for name, length in periods:
             found = found + self[name] * length
@@ -231,6 +232,7 @@ class Bench:
 
     def divided(self, periods):
         """The list of what the players get in all periods, each divided as complaints are least."""
-        self.check_periods(periods)
+        if not are_periods(periods):
+            raise BadShares()
         lists = [[times((length, 1), one) for one in self.least(name)] for name, length in periods]
         return [added([amounts[player] for amounts in lists]) for player in range(self.players)]

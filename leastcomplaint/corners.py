@@ -47,7 +47,7 @@ def corners(game):
     found = []
     for tight in choices(other_groups(game), game.players - 1):
         division = solution([[*member_line(game, group), game[group]] for group in [*tight, game.whole]])
-        if division is not None and division not in found and is_calm_division(game, division):
+        if division not in found and is_calm_division(game, division):
             found.append(division)
     return in_order(found)
 

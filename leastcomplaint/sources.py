@@ -19,7 +19,7 @@ def are_small(value, many):
 
 def are_gains(value):
     """Whether a value is a list with a row for each seller, a list of what they gain with each buyer."""
-    if not isinstance(value, (list, tuple)) or not 1 <= len(value) < MOST_PLAYERS:
+    if not isinstance(value, (list, tuple)) or len(value) == 0:
         return False
     if not isinstance(value[0], (list, tuple)) or not 1 <= len(value[0]) <= MOST_PLAYERS - len(value):
         return False
@@ -64,15 +64,16 @@ def best_pairing(gains):
     return pairing_in(gains, market(gains).whole)
 
 
-def most_for(game, player):
-    """The worth of the whole less that of all other players."""
-    return game[game.whole] - game[tuple([other for other in game.whole if other != player])]
+def greatest_amounts(gains):
+    """For each player the greatest amount in a calm division: the worth of the whole less that of all others."""
+    game = market(gains)
+    others = [tuple([other for other in game.whole if other != player]) for player in game.whole]
+    return [game[game.whole] - game[group] for group in others]
 
 
 def best_for_sellers(gains):
     """The calm division of a market that is best for all sellers at once."""
-    game = market(gains)
-    amounts = [most_for(game, player) if player < len(gains) else 0 for player in game.whole]
+    amounts = greatest_amounts(gains)
     # In a calm division the two of a pair share just what they gain, and who is in no pair gets nothing.
     for seller, buyer in best_pairing(gains):
         amounts[buyer] = gain_of(gains, [(seller, buyer)]) - amounts[seller]
@@ -81,8 +82,7 @@ def best_for_sellers(gains):
 
 def best_for_buyers(gains):
     """The calm division of a market that is best for all buyers at once."""
-    game = market(gains)
-    amounts = [0 if player < len(gains) else most_for(game, player) for player in game.whole]
+    amounts = greatest_amounts(gains)
     for seller, buyer in best_pairing(gains):
         amounts[seller] = gain_of(gains, [(seller, buyer)]) - amounts[buyer]
     return [(one, 1) for one in amounts]

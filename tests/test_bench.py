@@ -148,7 +148,7 @@ class Names(BenchCase):
 
     def test_names_that_there_are_not(self):
         bench = a_bench()
-        for name in ("c", "", "A", "ab", "a "):
+        for name in ("c", "", "A", "ab", "a ", None, 5, ("a",), ["a"], {}):
             self.assert_raises(UnknownName, bench, lambda: bench[name], name=name)
             self.assertIs(name in bench, False)
 
